@@ -720,3 +720,18 @@ func TestExampleOfTheDocument(t *testing.T) {
 		t.Errorf("three frames, two slots and four blocks are %s, errno %d", show(m), err)
 	}
 }
+
+// TestStored: what is on the disk is told whatever is in the cache, and of pages that are not there noughts are.
+func TestStored(t *testing.T) {
+	for _, c := range []struct {
+		file, index int
+		want        api.Page
+	}{
+		{0, 0, api.Page{1, 2, 3, 4, 5, 6, 7, 8}}, {0, 1, api.Page{}}, {0, 2, api.Page{11, 12, 13, 14}}, {1, 0, api.Page{22}}, {3, 1, api.Page{31, 32}},
+		{0, 3, api.Page{}}, {0, -1, api.Page{}}, {2, 0, api.Page{}}, {4, 0, api.Page{}}, {-1, 0, api.Page{}}, {math.MaxInt, math.MinInt, api.Page{}},
+	} {
+		if p := Stored(sample(), c.file, c.index); p != c.want {
+			t.Errorf("page %d of file %d is stored as %v, not %v", c.index, c.file, p, c.want)
+		}
+	}
+}

@@ -157,7 +157,7 @@ func mayHave(f api.Frame, a api.Area, n int) bool {
 	if f.File < 0 {
 		return !a.Shared
 	}
-	return f.File == a.File && f.Index == indexOf(a, n)
+	return f.File == a.File && f.Index == IndexOf(a, n)
 }
 
 // mayWrite tells whether f, the frame of a page in area a, may be written as it is: a file's page for all to see, a copy by the one who has it.
