@@ -51,19 +51,24 @@ func (m *Machine) Cached(file, index int) (int, bool) {
 
 // Drop has s have nothing any more.
 func (m *Machine) Drop(s Spot) {
-	switch e := m.Entry(s); e.Kind {
-	case api.Present:
-		m.Memory, _ = frames.Hold(m.Memory, e.N, -1)
-	case api.Swapped:
-		m.Slots, _ = slots.Hold(m.Slots, e.N, -1)
-	}
+	m.hold(m.Entry(s), -1)
 	m.enter(s, api.Entry{})
 }
 
 // Join has s, which has nothing, be in frame k, as others are.
 func (m *Machine) Join(s Spot, k int) {
-	m.Memory, _ = frames.Hold(m.Memory, k, 1)
-	m.enter(s, api.Entry{Kind: api.Present, N: k})
+	e := api.Entry{Kind: api.Present, N: k}
+	m.hold(e, 1)
+	m.enter(s, e)
+}
+
+// Share has s, which has nothing, and lies in an area like from's, have what that has, a frame, a slot, or nothing. Neither may write there then: a copy of both would be seen to change by the other one.
+func (m *Machine) Share(s, from Spot) {
+	e := m.Entry(from)
+	e.Write = false
+	m.hold(e, 1)
+	m.enter(from, e)
+	m.enter(s, e)
 }
 
 // Allow has s, which is in a frame, be written there.
@@ -114,6 +119,16 @@ func (m *Machine) take(p api.Page, file, index int, l []Spot) (int, api.Errno) {
 	}
 	m.Memory = memory
 	return k, api.OK
+}
+
+// hold has the frame, or the slot, of e be held n times more (n below 0: less).
+func (m *Machine) hold(e api.Entry, n int) {
+	switch e.Kind {
+	case api.Present:
+		m.Memory, _ = frames.Hold(m.Memory, e.N, n)
+	case api.Swapped:
+		m.Slots, _ = slots.Hold(m.Slots, e.N, n)
+	}
 }
 
 // enter gives s the entry e.

@@ -235,6 +235,11 @@ func TestSteps(t *testing.T) {
 		{"a shared page goes", func(m *Machine) { m.Drop(Spot{0, 9}) }, nil, "[1 2 2 1] [2 0 0]"},
 		{"nothing goes", func(m *Machine) { m.Drop(Spot{0, 3}) }, nil, "[1 2 3 1] [2 0 0]"},
 		{"one joins", func(m *Machine) { m.Join(Spot{0, 3}, 1) }, []Spot{{0, 3}}, "[1 3 3 1] [2 0 0]"},
+		{"one shares a copy of one", func(m *Machine) { m.Share(Spot{1, 0}, Spot{0, 0}) }, []Spot{{1, 0}}, "[2 2 3 1] [2 0 0]"},
+		{"one shares a copy of both", func(m *Machine) { m.Share(Spot{0, 3}, Spot{1, 1}) }, []Spot{{0, 3}}, "[1 3 3 1] [2 0 0]"},
+		{"one shares a slot", func(m *Machine) { m.Share(Spot{0, 3}, Spot{1, 2}) }, []Spot{{0, 3}}, "[1 2 3 1] [3 0 0]"},
+		{"one shares a shared page", func(m *Machine) { m.Drop(Spot{1, 9}); m.Share(Spot{1, 9}, Spot{0, 9}) }, nil, "[1 2 3 1] [2 0 0]"},
+		{"one shares nothing", func(m *Machine) { m.Share(Spot{0, 3}, Spot{1, 3}) }, nil, "[1 2 3 1] [2 0 0]"},
 		{"a shared page may be written", func(m *Machine) { m.Allow(Spot{1, 9}) }, nil, "[1 2 3 1] [2 0 0]"},
 		{"both come from a slot", func(m *Machine) { m.FreeFrame(); m.Copy(api.Page{14}, Spot{0, 2}, Spot{1, 2}) }, nil, "[1 2 3 2] [0 0 0]"},
 		{"one comes from a slot", func(m *Machine) { m.FreeFrame(); m.Copy(api.Page{14}, Spot{1, 2}) }, nil, "[1 2 3 1] [1 0 0]"},
@@ -251,5 +256,18 @@ func TestSteps(t *testing.T) {
 		if got := fmt.Sprint(refs, " ", m.Slots); got != c.refs || machine.Wrong(m.Machine) != api.OK || told(m.Machine, c.spots...) != before {
 			t.Errorf("%s: frames and slots are held %s, not %s; Wrong is %d: %+v", c.name, got, c.refs, machine.Wrong(m.Machine), m.Machine)
 		}
+	}
+}
+
+// TestShareWritesNot: what two have neither of them may write, and both see the same.
+func TestShareWritesNot(t *testing.T) {
+	m := Of(sample())
+	m.Share(Spot{1, 0}, Spot{0, 0})
+	want := api.Entry{Kind: api.Present, N: 0}
+	if e, f := m.Entry(Spot{0, 0}), m.Entry(Spot{1, 0}); e != want || f != want {
+		t.Errorf("the entries are %+v and %+v", e, f)
+	}
+	if x, isCopy, err := machine.View(m.Machine, 1, 0); x != (api.Page{10}) || !isCopy || err != api.OK {
+		t.Errorf("what is shared is %v, copy %t, errno %d", x, isCopy, err)
 	}
 }
