@@ -142,6 +142,26 @@ func TestWhatIsWritten(t *testing.T) {
 	}
 }
 
+// TestClean: a file's page is written, and stays in its frame, where a block is, or can be, its own.
+func TestClean(t *testing.T) {
+	for _, c := range []struct {
+		block, blocks int
+		want          string
+	}{
+		{0, 1, "true false [-1 0] [{0 [1 2 4 0 0 0 0 0]}]"},
+		{1, 2, "true false [-1 1] [{1 [1 2 4 0 0 0 0 0]}]"},
+		{-1, 2, "true false [-1 0] [{0 [1 2 4 0 0 0 0 0]}]"},
+		{-1, 0, "false true [-1 -1] []"},
+	} {
+		m := Of(oneFrame(api.Page{1, 2, 4, 5}, true, c.block, c.blocks))
+		before := told(m.Machine)
+		clean := m.Clean(0)
+		if got := fmt.Sprint(clean, m.Memory.Frames[0].Dirty, m.Store.Files[0].Blocks, m.Disk.Queue); got != c.want || machine.Wrong(m.Machine) != api.OK || told(m.Machine) != before || m.Memory.Frames[0].Refs != 1 {
+			t.Errorf("block %d of %d: it is %s, not %s: %+v", c.block, c.blocks, got, c.want, m.Machine)
+		}
+	}
+}
+
 // TestSeenBehindTheEnd: what a frame has behind the file's end leaves it if nobody sees it there.
 func TestSeenBehindTheEnd(t *testing.T) {
 	for _, c := range []struct {

@@ -68,6 +68,15 @@ func (m *Machine) toDisk(k int, moving []Spot) bool {
 	return true
 }
 
+// Clean has frame k, a file's page, be written to its block, and not be Dirty any more; false, if it has none, and could get none.
+func (m *Machine) Clean(k int) bool {
+	if !m.write(k) {
+		return false
+	}
+	m.Memory.Frames[k].Dirty = false
+	return true
+}
+
 // write has the file's page in frame k be written to its block, and tells whether it has one, or could get one.
 func (m *Machine) write(k int) bool {
 	f := m.Memory.Frames[k]
