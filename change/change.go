@@ -92,15 +92,17 @@ func (m *Machine) Copy(p api.Page, l ...Spot) (int, api.Errno) {
 	return k, api.OK
 }
 
-// Fetch has s be in a frame that has p, which is page index of file, and not in the cache yet, and answers which one; ErrFull, if no frame can be free.
-func (m *Machine) Fetch(p api.Page, file, index int, s Spot) (int, api.Errno) {
-	k, err := m.take(p, file, index, []Spot{s})
+// Fetch has page index of file, which is p, and not in the cache yet, be in a frame, and all of l with it, and answers which one; ErrFull, if no frame can be free.
+func (m *Machine) Fetch(p api.Page, file, index int, l ...Spot) (int, api.Errno) {
+	k, err := m.take(p, file, index, l)
 	if err != api.OK {
 		return 0, err
 	}
 	at, _ := m.placeOf(file, index)
 	m.Cache = slices.Insert(m.Cache, at, api.Cached{File: file, Index: index, Frame: k})
-	m.Join(s, k)
+	for _, s := range l {
+		m.Join(s, k)
+	}
 	return k, api.OK
 }
 

@@ -291,3 +291,138 @@ func TestShareWritesNot(t *testing.T) {
 		t.Errorf("what is shared is %v, copy %t, errno %d", x, isCopy, err)
 	}
 }
+
+// onDisk is a machine without frames, and a file of 20 bytes: its page 0 has block 1, with something waiting for it, page 1 none, and page 2 block 0, which has bytes behind the file's end.
+func onDisk(frames int) api.Machine {
+	m, _ := machine.New(api.Config{Frames: frames, Blocks: 3})
+	m.Store.Files = []api.File{{Size: 20, Blocks: []int{1, -1, 0}}, {}}
+	m.Disk.Blocks[0], m.Disk.Blocks[1] = api.Page{21, 22, 23, 24, 25, 26, 27, 28}, api.Page{1, 2, 3, 4, 5, 6, 7, 8}
+	m.Disk.Queue = []api.Put{{At: 1, Page: api.Page{11, 12, 13, 14, 15, 16, 17, 18}}}
+	return m
+}
+
+// TestResize: what a file was cut off is nowhere any more, and blocks that it had are free.
+func TestResize(t *testing.T) {
+	for _, c := range []struct {
+		size int
+		want string
+	}{
+		{0, "{0 []} [[0 0 0 0 0 0 0 0] [0 0 0 0 0 0 0 0] [0 0 0 0 0 0 0 0]] []"},
+		{3, "{3 [1]} [[0 0 0 0 0 0 0 0] [11 12 13 0 0 0 0 0] [0 0 0 0 0 0 0 0]] []"},
+		{8, "{8 [1]} [[0 0 0 0 0 0 0 0] [1 2 3 4 5 6 7 8] [0 0 0 0 0 0 0 0]] [{1 [11 12 13 14 15 16 17 18]}]"},
+		{13, "{13 [1 -1]} [[0 0 0 0 0 0 0 0] [1 2 3 4 5 6 7 8] [0 0 0 0 0 0 0 0]] [{1 [11 12 13 14 15 16 17 18]}]"},
+		{17, "{17 [1 -1 0]} [[21 0 0 0 0 0 0 0] [11 12 13 14 15 16 17 18] [0 0 0 0 0 0 0 0]] []"},
+		{20, "{20 [1 -1 0]} [[21 22 23 24 0 0 0 0] [11 12 13 14 15 16 17 18] [0 0 0 0 0 0 0 0]] []"},
+		{22, "{22 [1 -1 0]} [[21 22 23 24 0 0 0 0] [11 12 13 14 15 16 17 18] [0 0 0 0 0 0 0 0]] []"},
+		{33, "{33 [1 -1 0 -1 -1]} [[21 22 23 24 0 0 0 0] [11 12 13 14 15 16 17 18] [0 0 0 0 0 0 0 0]] []"},
+	} {
+		m := Of(onDisk(0))
+		was, _ := machine.Bytes(m.Machine, 0)
+		m.Resize(0, c.size)
+		if got := fmt.Sprint(m.Store.Files[0], m.Disk.Blocks, m.Disk.Queue); got != c.want || machine.Wrong(m.Machine) != api.OK {
+			t.Errorf("%d bytes: it is %s, not %s; Wrong is %d", c.size, got, c.want, machine.Wrong(m.Machine))
+		}
+		want := append(was, make([]byte, 96)...)[:c.size]
+		clear(want[min(20, c.size):])
+		if b, _ := machine.Bytes(m.Machine, 0); !slices.Equal(b, want) {
+			t.Errorf("%d bytes: it is %v, not %v", c.size, b, want)
+		}
+	}
+}
+
+// TestResizeWaiting: what waits, and may be there behind a crash, is cut too, though the block reads noughts there.
+func TestResizeWaiting(t *testing.T) {
+	m := Of(onDisk(0))
+	m.Disk.Blocks[1] = api.Page{1, 2}
+	m.Disk.Queue = append(m.Disk.Queue, api.Put{At: 1, Page: api.Page{31, 32}})
+	m.Resize(0, 2)
+	if got := fmt.Sprint(m.Disk.Blocks, m.Disk.Queue); got != "[[0 0 0 0 0 0 0 0] [31 32 0 0 0 0 0 0] [0 0 0 0 0 0 0 0]] []" {
+		t.Errorf("it is %s", got)
+	}
+	// Where there is nothing to cut, what waits goes on waiting.
+	m = Of(onDisk(0))
+	m.Disk.Blocks[1], m.Disk.Queue = api.Page{1, 2}, []api.Put{{At: 1, Page: api.Page{31, 32}}, {At: 0, Page: api.Page{33}}}
+	m.Resize(0, 2)
+	if got := fmt.Sprint(m.Disk.Blocks, m.Disk.Queue); got != "[[0 0 0 0 0 0 0 0] [1 2 0 0 0 0 0 0] [0 0 0 0 0 0 0 0]] [{1 [31 32 0 0 0 0 0 0]}]" {
+		t.Errorf("it is %s", got)
+	}
+}
+
+// TestResizeFrames: pages behind the end leave their frames, and whoever was in them; the page that is cut stays, as Dirty as it was.
+func TestResizeFrames(t *testing.T) {
+	for _, c := range []struct {
+		size, free int
+		page       string
+	}{{0, 1, ""}, {8, 1, ""}, {9, 0, "[12 0 0 0 0 0 0 0]"}, {11, 0, "[12 2 3 0 0 0 0 0]"}, {16, 0, "[12 2 3 4 5 6 7 8]"}, {20, 0, "[12 2 3 4 5 6 7 8]"}, {60, 0, "[12 2 3 4 5 6 7 8]"}} {
+		for _, dirty := range []bool{false, true} {
+			m := Of(sample())
+			m.Memory.Frames[2].Page, m.Memory.Frames[2].Dirty = api.Page{12, 2, 3, 4, 5, 6, 7, 8}, dirty
+			m.Resize(0, c.size)
+			f := m.Memory.Frames[2]
+			if err := machine.Wrong(m.Machine); err != api.OK || frames.Free(m.Memory) != c.free {
+				t.Errorf("%d bytes: Wrong is %d: %+v", c.size, err, m.Machine)
+			}
+			if c.free == 0 && (fmt.Sprint(f.Page) != c.page || f.Dirty != dirty || f.Refs != 3) {
+				t.Errorf("%d bytes: the frame is %+v", c.size, f)
+			}
+			if e := m.Entry(Spot{1, 9}); (e.Kind == api.None) != (c.free == 1) {
+				t.Errorf("%d bytes: the entry is %+v", c.size, e)
+			}
+		}
+	}
+}
+
+// TestPut: bytes are in a frame, if one can be had, else in the block; nobody else sees it.
+func TestPut(t *testing.T) {
+	for _, c := range []struct {
+		name   string
+		frames int
+		index  int
+		want   string
+	}{
+		{"in a frame", 1, 0, "0 [11 12 13 51 52 16 17 18] true true 1 [1 -1 0] 1"},
+		{"in a frame, without a block", 1, 1, "0 [0 0 0 51 52 0 0 0] true true 1 [1 -1 0] 1"},
+		{"in its block", 0, 0, "0 [1 -1 0] 2"},
+		{"in a block that it gets", 0, 1, "0 [1 2 0] 2"},
+		{"in its block, up to the end", 0, 2, "0 [1 -1 0] 2"},
+	} {
+		m := Of(onDisk(c.frames))
+		want, _ := machine.Bytes(m.Machine, 0)
+		want = append(want, 0, 0, 0, 0)
+		copy(want[c.index*api.PageSize+3:], []byte{51, 52})
+		err := m.Put(0, c.index, 3, []byte{51, 52})
+		got := fmt.Sprint(err)
+		for _, f := range m.Memory.Frames {
+			got += fmt.Sprint(" ", f.Page, f.Used, f.Dirty, f.Refs)
+		}
+		got += fmt.Sprint(" ", m.Store.Files[0].Blocks, len(m.Disk.Queue))
+		if got != c.want || machine.Wrong(m.Machine) != api.OK {
+			t.Errorf("%s: it is %s, not %s: %+v", c.name, got, c.want, m.Machine)
+		}
+		if b, _ := machine.Bytes(m.Machine, 0); !slices.Equal(b, want[:20]) {
+			t.Errorf("%s: the file is %v, not %v", c.name, b, want)
+		}
+	}
+	full := Of(onDisk(0))
+	full.Store.Files[1] = api.File{Size: 1, Blocks: []int{2}}
+	if err := full.Put(0, 1, 0, []byte{1}); err != api.ErrFull {
+		t.Errorf("there is neither a frame nor a block: errno %d", err)
+	}
+}
+
+// TestPutCached: bytes of a page that is in a frame are written there, and all who have it see them.
+func TestPutCached(t *testing.T) {
+	m := Of(sample())
+	m.Memory.Frames[2].Dirty, m.Memory.Frames[2].Used = false, false
+	before := told(m.Machine, Spot{0, 9}, Spot{1, 9})
+	if err := m.Put(0, 1, 7, []byte{5}); err != api.OK || machine.Wrong(m.Machine) != api.OK {
+		t.Fatalf("errno %d: %+v", err, m.Machine)
+	}
+	if f := m.Memory.Frames[2]; f.Page != (api.Page{12, 0, 0, 0, 0, 0, 0, 5}) || !f.Dirty || !f.Used || f.Refs != 3 {
+		t.Errorf("the frame is %+v", f)
+	}
+	m.Memory.Frames[2].Page[7] = 0
+	if told(m.Machine, Spot{0, 9}, Spot{1, 9}) != before {
+		t.Errorf("all else is another one: %+v", m.Machine)
+	}
+}

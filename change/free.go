@@ -62,9 +62,7 @@ func (m *Machine) toDisk(k int, moving []Spot) bool {
 			return false
 		}
 	}
-	at, _ := m.placeOf(f.File, f.Index)
-	m.Cache = slices.Delete(m.Cache, at, at+1)
-	m.leave(k, api.Entry{})
+	m.uncache(k)
 	return true
 }
 
@@ -80,13 +78,26 @@ func (m *Machine) Clean(k int) bool {
 // write has the file's page in frame k be written to its block, and tells whether it has one, or could get one.
 func (m *Machine) write(k int) bool {
 	f := m.Memory.Frames[k]
-	files, block, err := store.Block(m.Store, f.File, f.Index)
+	return m.writePage(m.inFile(f), f.File, f.Index)
+}
+
+// writePage has p be written to the block of page index of file, and tells whether that has one, or could get one.
+func (m *Machine) writePage(p api.Page, file, index int) bool {
+	files, block, err := store.Block(m.Store, file, index)
 	if err != api.OK {
 		return false
 	}
 	m.Store = files
-	m.Disk, _ = disk.Write(m.Disk, block, m.inFile(f))
+	m.Disk, _ = disk.Write(m.Disk, block, p)
 	return true
+}
+
+// uncache has frame k, a file's page, be free: whoever was in it has nothing any more.
+func (m *Machine) uncache(k int) {
+	f := m.Memory.Frames[k]
+	at, _ := m.placeOf(f.File, f.Index)
+	m.Cache = slices.Delete(m.Cache, at, at+1)
+	m.leave(k, api.Entry{})
 }
 
 // leave has all who are in frame k have e instead, and the frame be free.
